@@ -147,14 +147,21 @@ func trueAngle(y int, x int) *big.Float {
 	return sumOf(angle, truePi())
 }
 
-// The true value lies between the ends of what is answered at p, and these are at most so far from each other.
-func checkTrue(t *testing.T, name string, got impl.Iv, p int, value *big.Float, width int64) {
+// The true value lies between the ends of what is answered at p.
+func checkBetween(t *testing.T, name string, got impl.Iv, p int, value *big.Float) {
 	t.Helper()
 	lo, hi := endsOf(got)
 	at := scaled(value, p)
 	if realOf(lo).Cmp(at) > 0 || realOf(hi).Cmp(at) < 0 {
 		t.Fatalf("%s at %d: from %v to %v does not hold %s", name, p, lo, hi, at.Text('f', 3))
 	}
+}
+
+// And these are at most so far from each other.
+func checkTrue(t *testing.T, name string, got impl.Iv, p int, value *big.Float, width int64) {
+	t.Helper()
+	checkBetween(t, name, got, p, value)
+	lo, hi := endsOf(got)
 	if new(big.Int).Sub(hi, lo).Cmp(big.NewInt(width)) > 0 {
 		t.Fatalf("%s at %d: from %v to %v is wider than %d", name, p, lo, hi, width)
 	}
