@@ -64,6 +64,7 @@ func trueGainSquare(n int) *big.Float {
 }
 
 func TestConstantsAtEachPlace(t *testing.T) {
+	t.Parallel()
 	if impl.MaxConst != 464 {
 		t.Error("MaxConst", impl.MaxConst)
 	}
@@ -137,6 +138,7 @@ func TestAnglesOfEachPower(t *testing.T) {
 }
 
 func TestGainsOfEachCount(t *testing.T) {
+	t.Parallel()
 	for n := 0; n <= 200; n++ {
 		value := trueGainSquare(n)
 		for _, p := range constantPlaces {
@@ -161,6 +163,7 @@ func constantsOf(n int, p int) map[string]impl.Iv {
 }
 
 func TestMoreBitsMeetLess(t *testing.T) {
+	t.Parallel()
 	for _, n := range []int{0, 1, 2, 5, 40, 200} {
 		known := map[int]map[string]impl.Iv{}
 		for _, p := range constantPlaces {

@@ -155,6 +155,7 @@ func TestSeriesOfEachSmallIv(t *testing.T) {
 }
 
 func TestSeriesHoldTheFunctions(t *testing.T) {
+	t.Parallel()
 	m := &mixer{state: 20261118}
 	for _, s := range allSeries() {
 		for _, p := range seriesPlaces {
@@ -169,6 +170,7 @@ func TestSeriesHoldTheFunctions(t *testing.T) {
 
 // Of what is wide the values of both ends and of what lies between are held.
 func TestSeriesOfWideOnes(t *testing.T) {
+	t.Parallel()
 	m := &mixer{state: 5551212}
 	for _, s := range allSeries() {
 		for _, p := range []int{1, 2, 5, 24, 100, 316, 464} {

@@ -149,6 +149,7 @@ func TestRawIvNamedOnes(t *testing.T) {
 }
 
 func TestPowersOfWords(t *testing.T) {
+	t.Parallel()
 	m := &mixer{state: 161803398}
 	for _, f := range somePoints {
 		for _, v := range someArgs(m) {
@@ -164,6 +165,7 @@ func TestPowersOfWords(t *testing.T) {
 }
 
 func TestPowersAtEachPlace(t *testing.T) {
+	t.Parallel()
 	for p := 1; p <= 300; p++ {
 		for _, v := range []int{0, 1, -1, 12, -10, 256, -1600} {
 			checkPower(t, v, 2, p)
@@ -177,6 +179,7 @@ func TestPowersAtEachPlace(t *testing.T) {
 }
 
 func TestPowersAtTheirEdges(t *testing.T) {
+	t.Parallel()
 	for f := 0; f <= 60; f++ {
 		for _, p := range []int{1, 59, 300} {
 			for d := -1; d <= 1; d++ {
@@ -213,6 +216,23 @@ func TestPowersAtTheirEdges(t *testing.T) {
 	}
 }
 
+// Nearly whole numbers of doublings: with a rougher logarithm of 2 another one is taken, and these are told otherwise.
+func TestPowersAboutDoublings(t *testing.T) {
+	t.Parallel()
+	for _, c := range [][3]int{{6668636336947, 37, 278}, {216445454018150, 42, 213}, {22101858587770, 40, 274}, {98243584327, 32, 162}, {101220216995, 31, 224}, {34295949715046, 40, 220}, {506053006333050, 43, 253}} {
+		checkPower(t, c[0], c[1], c[2])
+	}
+	m := &mixer{state: 45426}
+	for range 300 {
+		f, n := m.below(54), m.below(140)-70
+		at := new(big.Int).Mul(bigInt(n*45426), near(f, 0))
+		v := int(floorOf(at, big.NewInt(65536)).Int64())
+		for d := range 2 {
+			checkPower(t, v+d, f, 1+m.below(300))
+		}
+	}
+}
+
 func TestPowersNamedOnes(t *testing.T) {
 	cases := []struct{ v, f, p, lo, hi int }{
 		{0, 0, 1, 1, 3}, {0, 60, 1, 1, 3}, {0, 0, 20, 1<<20 - 1, 1<<20 + 1}, {1, 0, 1, 5, 6}, {1, 60, 1, 1, 3}, {-1, 60, 1, 1, 3}, {-1, 0, 1, 0, 1}, {-1, 0, 4, 5, 6}, {-40, 0, 1, 0, 1}, {12, 2, 30, 21566681051, 21566681052}, {-10, 2, 30, 88138096, 88138097},
@@ -224,6 +244,7 @@ func TestPowersNamedOnes(t *testing.T) {
 }
 
 func TestLogarithmsOfWords(t *testing.T) {
+	t.Parallel()
 	m := &mixer{state: 57721566}
 	for _, f := range somePoints {
 		for _, v := range someArgs(m) {
@@ -234,6 +255,7 @@ func TestLogarithmsOfWords(t *testing.T) {
 
 // 1, the powers of 2, and the numbers beside them.
 func TestLogarithmsAboutPowersOfTwo(t *testing.T) {
+	t.Parallel()
 	for k := 0; k <= 61; k++ {
 		for _, f := range []int{0, 1, 30, k, 60} {
 			for d := -1; d <= 1; d++ {
@@ -254,6 +276,7 @@ func TestLogarithmsAboutPowersOfTwo(t *testing.T) {
 }
 
 func TestLogarithmsAtEachPlace(t *testing.T) {
+	t.Parallel()
 	for p := 1; p <= 300; p++ {
 		checkLog(t, 10, 0, p)
 		checkLog(t, 1, 1, p)

@@ -137,6 +137,7 @@ func checkSquares(t *testing.T, v int, f int, turns bool, p int, sine impl.Iv, c
 }
 
 func TestSinesOfWords(t *testing.T) {
+	t.Parallel()
 	m := &mixer{state: 31415926}
 	for _, turns := range bothWays {
 		for _, f := range somePoints {
@@ -150,6 +151,7 @@ func TestSinesOfWords(t *testing.T) {
 }
 
 func TestSinesAtEachPlace(t *testing.T) {
+	t.Parallel()
 	for p := 1; p <= 300; p++ {
 		for _, turns := range bothWays {
 			for _, v := range []int{0, 1, -10, 355, mostArg} {
@@ -162,6 +164,7 @@ func TestSinesAtEachPlace(t *testing.T) {
 
 // All sixteenths of some turns, and what lies beside them.
 func TestSinesOfPartsOfATurn(t *testing.T) {
+	t.Parallel()
 	for sixteenths := -40; sixteenths <= 40; sixteenths++ {
 		for _, f := range []int{4, 5, 24, 54} {
 			for d := -1; d <= 1; d++ {
@@ -177,6 +180,7 @@ func TestSinesOfPartsOfATurn(t *testing.T) {
 
 // The words on both sides of each eighth of a turn, near nought and far from it.
 func TestSinesOfAnglesAboutEighths(t *testing.T) {
+	t.Parallel()
 	eighth := scaled(truePi(), -2)
 	m := &mixer{state: 27182818}
 	for _, f := range []int{0, 1, 24, 56, 60} {
@@ -279,6 +283,7 @@ func TestTangentsNamedOnes(t *testing.T) {
 
 // The least p at which a cosine is told from 0; one bit less is EnWide.
 func TestTangentsWhereTheCosineIsNearlyNought(t *testing.T) {
+	t.Parallel()
 	told := 0
 	for k := 1; k <= 60; k++ {
 		v := 1<<58 + 1<<(k-1)

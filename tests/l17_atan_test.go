@@ -71,6 +71,7 @@ func eighths(a *big.Float) *big.Float {
 }
 
 func TestAnglesOfSmallPoints(t *testing.T) {
+	t.Parallel()
 	for y := -6; y <= 6; y++ {
 		for x := -6; x <= 6; x++ {
 			for _, turns := range bothWays {
@@ -83,6 +84,7 @@ func TestAnglesOfSmallPoints(t *testing.T) {
 }
 
 func TestAnglesOfPoints(t *testing.T) {
+	t.Parallel()
 	m := &mixer{state: 16180339}
 	args := someArgs(m)
 	for _, turns := range bothWays {
@@ -95,9 +97,11 @@ func TestAnglesOfPoints(t *testing.T) {
 }
 
 func TestAnglesAtEachPlace(t *testing.T) {
+	t.Parallel()
 	for p := 1; p <= 300; p++ {
 		for _, turns := range bothWays {
 			checkAngle(t, 2, 1, turns, p)
+			checkAngle(t, 2, -1, turns, p)
 			checkAngle(t, 4, -3, turns, p)
 			checkAngle(t, -mostArg, 1-mostArg, turns, p)
 		}
@@ -106,6 +110,7 @@ func TestAnglesAtEachPlace(t *testing.T) {
 
 // 2a of b, just below and just above it, in every eighth; and both of one size, and beside it.
 func TestAnglesAboutTheHalf(t *testing.T) {
+	t.Parallel()
 	signs := []int{1, -1}
 	for _, b := range []int{1, 2, 10, 1 << 30, 1<<40 + 2, mostArg - 2, mostArg} {
 		for _, a := range []int{b/2 - 1, b / 2, b/2 + 1, b - 1, b} {

@@ -130,6 +130,7 @@ func checkHyperbolic(t *testing.T, v int, f int, p int) {
 }
 
 func TestHyperbolicOfWords(t *testing.T) {
+	t.Parallel()
 	m := &mixer{state: 1618033}
 	for _, f := range somePoints {
 		for _, v := range someArgs(m) {
@@ -139,6 +140,7 @@ func TestHyperbolicOfWords(t *testing.T) {
 }
 
 func TestHyperbolicAtEachPlace(t *testing.T) {
+	t.Parallel()
 	for p := 1; p <= 300; p++ {
 		for _, v := range []int{0, 1, -3, 100} {
 			checkSinhAndCosh(t, v, 1, p)
@@ -216,6 +218,7 @@ func TestHyperbolicTangentsFarOff(t *testing.T) {
 
 // 1 and -1, and one less of each size.
 func TestHyperbolicAnglesAboutOne(t *testing.T) {
+	t.Parallel()
 	for f := 0; f <= 60; f++ {
 		one := 1 << f
 		for _, p := range []int{1, 61, 300} {
@@ -259,6 +262,7 @@ func TestHyperbolicNamedOnes(t *testing.T) {
 
 // Odd ones are the other way round below nought, the cosine is the same.
 func TestHyperbolicBelowNought(t *testing.T) {
+	t.Parallel()
 	m := &mixer{state: 24681357}
 	for range 300 {
 		f, p := m.below(61), 1+m.below(300)
@@ -279,6 +283,7 @@ func TestHyperbolicBelowNought(t *testing.T) {
 }
 
 func TestHyperbolicOfMoreBits(t *testing.T) {
+	t.Parallel()
 	for name, do := range hyperbolicFaces() {
 		for _, v := range []int{0, 1, -3, 12345, -32767} {
 			for i, q := range someEncs {
