@@ -166,3 +166,64 @@ func checkTrue(t *testing.T, name string, got impl.Iv, p int, value *big.Float, 
 		t.Fatalf("%s at %d: from %v to %v is wider than %d", name, p, lo, hi, width)
 	}
 }
+
+// What a function from FuExp on is of a and b by 2^f; a power is asked for where it is not too great.
+func trueValue(fn int, turns bool, f int, a int, b int) *big.Float {
+	switch fn {
+	case impl.FuExp:
+		return trueExpOfWord(a, f)
+	case impl.FuLog:
+		return trueLog(wordValue(a, f))
+	case impl.FuSin, impl.FuCos, impl.FuTan:
+		return trueWaveValue(fn, turns, f, a)
+	case impl.FuAtan:
+		return trueAngleValue(a, 1<<f, turns)
+	case impl.FuAtan2:
+		return trueAngleValue(a, b, turns)
+	case impl.FuAtanh:
+		return trueAtanh(wordValue(a, f))
+	}
+	power, inverse := truePowers(a, f)
+	difference, sum := lessOf(power, inverse), sumOf(power, inverse)
+	switch fn {
+	case impl.FuSinh:
+		return scaled(difference, -1)
+	case impl.FuCosh:
+		return scaled(sum, -1)
+	}
+	return lessThanOne(quotientOf(difference, sum))
+}
+
+func trueWaveValue(fn int, turns bool, f int, a int) *big.Float {
+	s, c := trueWave(angleValue(a, f, turns))
+	if turns {
+		s, c = whole(s), whole(c)
+	}
+	switch fn {
+	case impl.FuSin:
+		return s
+	case impl.FuCos:
+		return c
+	}
+	return quotientOf(s, c)
+}
+
+func trueAngleValue(y int, x int, turns bool) *big.Float {
+	angle := trueAngle(y, x)
+	if turns {
+		return eighths(quotientOf(angle, scaled(truePi(), 1)))
+	}
+	return angle
+}
+
+// No hyperbolic tangent is 1 or -1, however near it comes.
+func lessThanOne(a *big.Float) *big.Float {
+	least := scaled(exactly(1), 20-truthBits)
+	switch {
+	case a.Cmp(exactly(1)) == 0:
+		return lessOf(a, least)
+	case a.Cmp(exactly(-1)) == 0:
+		return sumOf(a, least)
+	}
+	return a
+}
