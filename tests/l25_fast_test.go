@@ -483,6 +483,35 @@ func TestFastOfLongWords(t *testing.T) {
 	}
 }
 
+// Where the answer goes from one word to the next each bit that was cut off counts.
+func TestFastAtTheHalves(t *testing.T) {
+	t.Parallel()
+	known, truth := stepAngles{}, truths{}
+	m := &mixer{state: 55885588}
+	for _, out := range []impl.Fmt{{Signed: true, W: 8}, {Signed: true, W: 12, F: 4}, {Signed: true, W: 40, F: 17}, {Signed: true, W: 60, F: 40}} {
+		for _, turns := range bothWays {
+			c := confOf(impl.Fmt{Signed: true, W: 60, F: 56}, out, impl.MdDown, impl.PoError, turns)
+			for _, fn := range fastFuns {
+				for range 2 {
+					// Both lie below an eighth of a turn, where all four go one way.
+					low, high := m.below(1<<51), 1<<52+m.below(1<<52)
+					for first, _ := impl.Fast(c, fn, low, 1<<55); high-low > 1; {
+						middle := low + (high-low)/2
+						if v, _ := impl.Fast(c, fn, middle, 1<<55); v == first {
+							low = middle
+						} else {
+							high = middle
+						}
+					}
+					for d := -3; d <= 3; d++ {
+						known.checkFast(t, truth, c, fn, low+d, 1<<55)
+					}
+				}
+			}
+		}
+	}
+}
+
 // What is exact is told exactly: there is one word that is neither below nor above it.
 func TestFastOfWhatIsExact(t *testing.T) {
 	t.Parallel()
